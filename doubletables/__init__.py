@@ -1,0 +1,1 @@
+"""Tables of doubles, every step told: the calls are in doubletables.tables."""

@@ -37,6 +37,10 @@ def is_zero(x):
     return size_of(x) == 0
 
 
+def is_equal(x, y):
+    return x == y or (is_zero(x) and is_zero(y))
+
+
 def whole_of(x):
     fraction = x & ((1 << FRACTION_BITS) - 1)
     if size_of(x) == fraction:

@@ -1,7 +1,7 @@
 """The calls: each takes numbers and lists, and answers one list, as the document's interface says."""
 
 from doubletables.doubles import (
-    StepNotFinite, fused, is_finite, minus, plus, product, quotient, root
+    StepNotFinite, fused, is_equal, is_finite, minus, opposite, plus, product, quotient, root
 )
 
 GREATEST_SIZE = 16
@@ -15,6 +15,10 @@ class NotFinite(Exception):
     pass
 
 
+class NotAsTold(Exception):
+    pass
+
+
 def answered(work):
     try:
         told = work()
@@ -24,6 +28,8 @@ def answered(work):
         return [-2]
     except StepNotFinite:
         return [-3]
+    except NotAsTold:
+        return [-4]
     return [0] + told
 
 
@@ -102,3 +108,77 @@ def flipped_told(m, n, a):
 
 def flipped(m, n, a):
     return answered(lambda: flipped_told(m, n, a))
+
+
+def rows_told(m, n, a, p):
+    check_counts([m, n], [a, p], [m * n, m])
+    check_finite(a)
+    if sorted(p) != list(range(m)):
+        raise NotAsTold()
+    told = []
+    for i in p:
+        told.extend(a[i * n:(i + 1) * n])
+    return with_count(told)
+
+
+def rows(m, n, a, p):
+    return answered(lambda: rows_told(m, n, a, p))
+
+
+def same_told(m, n, a, b):
+    check_counts([m, n], [a, b], [m * n, m * n])
+    check_finite(a + b)
+    return [1 if all([is_equal(x, y) for x, y in zip(a, b)]) else 0]
+
+
+def same(m, n, a, b):
+    return answered(lambda: same_told(m, n, a, b))
+
+
+def fused_along(row, column, start):
+    s = start
+    for x, y in zip(row, column):
+        s = fused(x, y, s)
+    return s
+
+
+def times_onto(m, k, n, a, b, start):
+    # start has what each number begins from: +0 for times, and b's numbers for rest.
+    made = []
+    for i in range(m):
+        for j in range(n):
+            made.append(fused_along(a[i * k:(i + 1) * k], b[j::n], start[i * n + j]))
+    return made
+
+
+def times_told(m, k, n, a, b):
+    check_counts([m, k, n], [a, b], [m * k, k * n])
+    check_finite(a + b)
+    return with_count(times_onto(m, k, n, a, b, [0] * (m * n)))
+
+
+def times(m, k, n, a, b):
+    return answered(lambda: times_told(m, k, n, a, b))
+
+
+def rest_told(m, k, n, a, x, b):
+    check_counts([m, k, n], [a, x, b], [m * k, k * n, m * n])
+    check_finite(a + x + b)
+    return with_count(times_onto(m, k, n, [opposite(y) for y in a], x, b))
+
+
+def rest(m, k, n, a, x, b):
+    return answered(lambda: rest_told(m, k, n, a, x, b))
+
+
+def trace_told(n, a):
+    check_counts([n], [a], [n * n])
+    check_finite(a)
+    s = 0
+    for x in a[::n + 1]:
+        s = plus(s, x)
+    return [s]
+
+
+def trace(n, a):
+    return answered(lambda: trace_told(n, a))

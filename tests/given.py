@@ -15,6 +15,7 @@ LEAST = 1
 LEAST_NORMAL = 1 << 52
 GREATEST = 0x7FEFFFFFFFFFFFFF
 INFINITE = 0x7FF0000000000000
+BAD_SIZES = (0, 17, 18, 300, 2**32, 2**64 - 1)
 NOT_FINITE = (
     INFINITE, INFINITE | SIGN, INFINITE + 1, 0x7FF8000000000000, 0xFFF8000000000000, 0x7FFFFFFFFFFFFFFF, 2**64 - 1,
 )
@@ -119,6 +120,16 @@ def other_step(which, x, y, z):
     if which == 4:
         return None if exact(x) < 0 else bits(math.sqrt(value_of(x)))
     return other_f(x, y, z)
+
+
+def other_chain(pairs, start):
+    """F along the pairs, from start on: None as soon as a step isn't finite."""
+    s = start
+    for x, y in pairs:
+        s = other_f(x, y, s)
+        if s is None:
+            return None
+    return s
 
 
 def told(numbers):

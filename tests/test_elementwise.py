@@ -4,12 +4,11 @@ import unittest
 
 from doubletables.tables import flipped, less, scaled, sum_of
 from tests.given import (
-    GREATEST, INFINITE, LEAST, LEAST_NORMAL, MINUS_ZERO, NOT_FINITE, ONE, SIGN, ZERO, all_bits, bits, near_doubles,
-    other_step, short_doubles, told, wide_doubles,
+    BAD_SIZES, GREATEST, INFINITE, LEAST, LEAST_NORMAL, MINUS_ZERO, NOT_FINITE, ONE, SIGN, ZERO, all_bits, bits,
+    near_doubles, other_step, short_doubles, told, wide_doubles,
 )
 
 SIZES = [(m, n) for m in range(1, 6) for n in range(1, 6)]
-BAD_SIZES = (0, 17, 18, 300, 2**32, 2**64 - 1)
 TWO = bits(2.0)
 
 

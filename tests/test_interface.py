@@ -13,6 +13,11 @@ ARGUMENTS = {
     "less": ["m", "n", "a", "b"],
     "scaled": ["m", "n", "x", "a"],
     "flipped": ["m", "n", "a"],
+    "rows": ["m", "n", "a", "p"],
+    "same": ["m", "n", "a", "b"],
+    "times": ["m", "k", "n", "a", "b"],
+    "rest": ["m", "k", "n", "a", "x", "b"],
+    "trace": ["n", "a"],
 }
 
 

@@ -1,55 +1,23 @@
 """The calls: each takes numbers and lists, and answers one list, as the document's interface says."""
 
-from doubletables.doubles import (
-    StepNotFinite, fused, is_equal, is_finite, minus, opposite, plus, product, quotient, root
-)
-
-GREATEST_SIZE = 16
-
-
-class WrongCount(Exception):
-    pass
-
-
-class NotFinite(Exception):
-    pass
-
-
-class NotAsTold(Exception):
-    pass
-
-
-def answered(work):
-    try:
-        told = work()
-    except WrongCount:
-        return [-1]
-    except NotFinite:
-        return [-2]
-    except StepNotFinite:
-        return [-3]
-    except NotAsTold:
-        return [-4]
-    return [0] + told
-
-
-def check_counts(sizes, lists, counts):
-    for size in sizes:
-        if size < 1 or size > GREATEST_SIZE:
-            raise WrongCount()
-    for numbers, count in zip(lists, counts):
-        if len(numbers) != count:
-            raise WrongCount()
-
-
-def check_finite(numbers):
-    for x in numbers:
-        if not is_finite(x):
-            raise NotFinite()
+from doubletables.doubles import fused, is_equal, minus, plus, product, quotient, root
+from doubletables.equations import det_of, lu_of, refined_of, solve_of
+from doubletables.grids import added_up, columns_of, flat, grid_of, norms_of, rest_of, times_of
+from doubletables.refusals import NotAsTold, WrongCount, answered, check_counts, check_finite, check_times
 
 
 def with_count(numbers):
     return [len(numbers)] + numbers
+
+
+def grid_told(grid):
+    return with_count(flat(grid))
+
+
+def square_of(n, a):
+    check_counts([n], [a], [n * n])
+    check_finite(a)
+    return grid_of(a, n)
 
 
 def step_told(which, x, y, z):
@@ -100,10 +68,7 @@ def scaled(m, n, x, a):
 def flipped_told(m, n, a):
     check_counts([m, n], [a], [m * n])
     check_finite(a)
-    told = []
-    for j in range(n):
-        told.extend(a[j::n])
-    return with_count(told)
+    return grid_told(columns_of(grid_of(a, n)))
 
 
 def flipped(m, n, a):
@@ -115,10 +80,8 @@ def rows_told(m, n, a, p):
     check_finite(a)
     if sorted(p) != list(range(m)):
         raise NotAsTold()
-    told = []
-    for i in p:
-        told.extend(a[i * n:(i + 1) * n])
-    return with_count(told)
+    grid = grid_of(a, n)
+    return grid_told([grid[i] for i in p])
 
 
 def rows(m, n, a, p):
@@ -135,26 +98,10 @@ def same(m, n, a, b):
     return answered(lambda: same_told(m, n, a, b))
 
 
-def fused_along(row, column, start):
-    s = start
-    for x, y in zip(row, column):
-        s = fused(x, y, s)
-    return s
-
-
-def times_onto(m, k, n, a, b, start):
-    # start has what each number begins from: +0 for times, and b's numbers for rest.
-    made = []
-    for i in range(m):
-        for j in range(n):
-            made.append(fused_along(a[i * k:(i + 1) * k], b[j::n], start[i * n + j]))
-    return made
-
-
 def times_told(m, k, n, a, b):
     check_counts([m, k, n], [a, b], [m * k, k * n])
     check_finite(a + b)
-    return with_count(times_onto(m, k, n, a, b, [0] * (m * n)))
+    return grid_told(times_of(grid_of(a, k), grid_of(b, n)))
 
 
 def times(m, k, n, a, b):
@@ -164,7 +111,7 @@ def times(m, k, n, a, b):
 def rest_told(m, k, n, a, x, b):
     check_counts([m, k, n], [a, x, b], [m * k, k * n, m * n])
     check_finite(a + x + b)
-    return with_count(times_onto(m, k, n, [opposite(y) for y in a], x, b))
+    return grid_told(rest_of(grid_of(a, k), grid_of(x, n), grid_of(b, n)))
 
 
 def rest(m, k, n, a, x, b):
@@ -172,13 +119,53 @@ def rest(m, k, n, a, x, b):
 
 
 def trace_told(n, a):
-    check_counts([n], [a], [n * n])
-    check_finite(a)
-    s = 0
-    for x in a[::n + 1]:
-        s = plus(s, x)
-    return [s]
+    grid = square_of(n, a)
+    return [added_up([grid[i][i] for i in range(n)])]
 
 
 def trace(n, a):
     return answered(lambda: trace_told(n, a))
+
+
+def norms_told(m, n, a):
+    check_counts([m, n], [a], [m * n])
+    check_finite(a)
+    return with_count(norms_of(grid_of(a, n)))
+
+
+def norms(m, n, a):
+    return answered(lambda: norms_told(m, n, a))
+
+
+def lu_told(n, a):
+    factors = lu_of(square_of(n, a))
+    return grid_told(factors.x) + with_count(factors.p) + [factors.sign]
+
+
+def lu(n, a):
+    return answered(lambda: lu_told(n, a))
+
+
+def det(n, a):
+    return answered(lambda: [det_of(square_of(n, a))])
+
+
+def solve_told(n, m, a, b):
+    check_counts([n, m], [a, b], [n * n, n * m])
+    check_finite(a + b)
+    return grid_told(solve_of(grid_of(a, n), grid_of(b, m)))
+
+
+def solve(n, m, a, b):
+    return answered(lambda: solve_told(n, m, a, b))
+
+
+def refined_told(n, m, many, a, b):
+    check_counts([n, m], [a, b], [n * n, n * m])
+    check_times(many)
+    check_finite(a + b)
+    return grid_told(refined_of(grid_of(a, n), grid_of(b, m), many))
+
+
+def refined(n, m, many, a, b):
+    return answered(lambda: refined_told(n, m, many, a, b))

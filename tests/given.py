@@ -74,10 +74,24 @@ def wide_doubles(seed, count):
     ]
 
 
+def great_doubles(seed, count):
+    """Finite doubles of the four greatest exponents, so that sums of them are beyond the greatest now and then."""
+    return [
+        (number & (SIGN | (LEAST_NORMAL - 1))) | ((2043 + (number >> 52) % 4) << 52) for number in stream(seed, count)
+    ]
+
+
 def short_doubles(seed, count):
     """Doubles of few bits, so that results lie exactly half-way, or are 0, often."""
     return [
         bits(math.ldexp(number % 15 - 7, (number >> 8) % 3 * 26 - 26)) for number in stream(seed, count)
+    ]
+
+
+def small_doubles(seed, count):
+    """Whole numbers from -2 to 2, -0 among them, so that equals and zeros meet often."""
+    return [
+        MINUS_ZERO if number % 40 == 0 else bits(float(number % 5 - 2)) for number in stream(seed, count)
     ]
 
 

@@ -18,6 +18,11 @@ ARGUMENTS = {
     "times": ["m", "k", "n", "a", "b"],
     "rest": ["m", "k", "n", "a", "x", "b"],
     "trace": ["n", "a"],
+    "norms": ["m", "n", "a"],
+    "lu": ["n", "a"],
+    "det": ["n", "a"],
+    "solve": ["n", "m", "a", "b"],
+    "refined": ["n", "m", "many", "a", "b"],
 }
 
 

@@ -52,8 +52,19 @@ def nodes_of(kinds):
     return [(path, node) for path, node in all_nodes() if isinstance(node, kinds)]
 
 
+def methods_of_classes():
+    return {
+        item.name for path, node in nodes_of(ast.ClassDef) for item in node.body if isinstance(item, ast.FunctionDef)
+    }
+
+
+def values_of_objects():
+    return {node.attr for path, node in nodes_of(ast.Attribute) if isinstance(node.ctx, ast.Store)}
+
+
 def bound_names(tree):
     names = {node.name for node in ast.walk(tree) if isinstance(node, (ast.FunctionDef, ast.ClassDef))}
+    names -= {"__init__"}
     names |= {alias.name for node in ast.walk(tree) if isinstance(node, ast.ImportFrom) for alias in node.names}
     names |= {node.arg for node in ast.walk(tree) if isinstance(node, ast.arg)}
     names |= {node.id for node in ast.walk(tree) if isinstance(node, ast.Name) and isinstance(node.ctx, ast.Store)}
@@ -139,11 +150,40 @@ class Names(unittest.TestCase):
     def test_every_name_is_bound_or_allowed(self):
         for path, tree in trees():
             known = bound_names(tree) | set(OWN_NAMES_OF_PYTHON)
+            attributes = set(METHODS) | values_of_objects() | methods_of_classes()
             for node in ast.walk(tree):
                 if isinstance(node, ast.Name):
                     self.assertIn(node.id, known, (path, node.lineno))
                 if isinstance(node, ast.Attribute):
-                    self.assertIn(node.attr, METHODS, (path, node.lineno))
+                    self.assertIn(node.attr, attributes, (path, node.lineno))
+
+    def test_values_of_objects_are_plain_and_no_methods(self):
+        for name in values_of_objects():
+            self.assertRegex(name, r"^[A-Za-z][A-Za-z0-9_]*$")
+            self.assertNotIn(name, methods_of_classes())
+            for own in (str, int, list, dict, set, bytes):
+                self.assertFalse(hasattr(own, name), name)
+
+    def test_classes(self):
+        for path, node in nodes_of(ast.ClassDef):
+            self.assertLessEqual(len(node.bases), 1, (path, node.name))
+            for item in node.body:
+                self.assertIsInstance(item, (ast.FunctionDef, ast.Pass), (path, node.name))
+        for path, tree in trees():
+            inner = [node for node in ast.walk(tree) if isinstance(node, ast.ClassDef) and node not in tree.body]
+            self.assertEqual(inner, [], path)
+
+    def test_no_two_files_draw_from_one_another(self):
+        drawn = {}
+        for path, node in nodes_of(ast.ImportFrom):
+            drawn.setdefault(path.stem, set()).add(node.module.split(".")[1])
+        for start in drawn:
+            reached, ahead = set(), [start]
+            while ahead:
+                fresh = drawn.get(ahead.pop(), set()) - reached
+                reached |= fresh
+                ahead.extend(fresh)
+            self.assertNotIn(start, reached)
 
     def test_names_are_plain_and_not_pythons_own(self):
         for path, tree in trees():

@@ -1,0 +1,82 @@
+"""Tables as lists of rows, so that x[i][j] is the words' [i, j], and what is made of whole ones."""
+
+from doubletables.doubles import fused, opposite, plus, root, size_of
+
+
+def grid_of(numbers, n):
+    return [numbers[start:start + n] for start in range(0, len(numbers), n)]
+
+
+def flat(grid):
+    numbers = []
+    for row in grid:
+        numbers.extend(row)
+    return numbers
+
+
+def column_of(grid, j):
+    return [row[j] for row in grid]
+
+
+def columns_of(grid):
+    return [column_of(grid, j) for j in range(len(grid[0]))]
+
+
+def zero_grid(m, n):
+    return [[0] * n for i in range(m)]
+
+
+def opposites(numbers):
+    return [opposite(x) for x in numbers]
+
+
+def added_up(numbers):
+    s = 0
+    for x in numbers:
+        s = plus(s, x)
+    return s
+
+
+def fused_along(row, column, start):
+    s = start
+    for x, y in zip(row, column):
+        s = fused(x, y, s)
+    return s
+
+
+def times_onto(a, b, starts):
+    # starts has what each number begins from: +0 for times, and b's numbers for rest.
+    columns = columns_of(b)
+    made = []
+    for row, start_row in zip(a, starts):
+        made.append([fused_along(row, column, start) for column, start in zip(columns, start_row)])
+    return made
+
+
+def times_of(a, b):
+    return times_onto(a, b, zero_grid(len(a), len(b[0])))
+
+
+def rest_of(a, x, b):
+    return times_onto([opposites(row) for row in a], x, b)
+
+
+def plus_row(row, other):
+    return [plus(x, y) for x, y in zip(row, other)]
+
+
+def plus_of(a, b):
+    return [plus_row(row, other) for row, other in zip(a, b)]
+
+
+def sizes_of(numbers):
+    return [size_of(x) for x in numbers]
+
+
+def norms_of(a):
+    # The bits of doubles that aren't below 0 rise as their values do, so max is the greatest value.
+    sizes = [sizes_of(row) for row in a]
+    column_sums = [added_up(column) for column in columns_of(sizes)]
+    row_sums = [added_up(row) for row in sizes]
+    numbers = flat(a)
+    return [max(flat(sizes)), max(column_sums), max(row_sums), root(fused_along(numbers, numbers, 0))]

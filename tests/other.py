@@ -1,0 +1,146 @@
+"""The calls reckoned another way: the words as they stand, on dicts by place, with the steps of tests.given."""
+
+from tests.given import ONE, SIGN, ZERO, minus_sign, other_step
+
+ADD, SUBTRACT, MULTIPLY, DIVIDE, ROOT, FUSE = range(6)
+
+
+class Refused(Exception):
+    def __init__(self, number):
+        super().__init__(number)
+        self.number = number
+
+
+def made(which, x, y=ZERO, z=ZERO):
+    result = other_step(which, x, y, z)
+    if result is None:
+        raise Refused(-3)
+    return result
+
+
+def size(x):
+    return x & (SIGN - 1)
+
+
+def is_nought(x):
+    return size(x) == 0
+
+
+def by_place(numbers, m, n):
+    return {(i, j): numbers[i * n + j] for i in range(m) for j in range(n)}
+
+
+def in_order(places, m, n):
+    return [places[i, j] for i in range(m) for j in range(n)]
+
+
+def row_told(numbers):
+    return [len(numbers)] + numbers
+
+
+def answer(work, *given):
+    try:
+        return [0] + work(*given)
+    except Refused as refused:
+        return [refused.number]
+
+
+def summed(numbers):
+    s = ZERO
+    for x in numbers:
+        s = made(ADD, s, size(x))
+    return s
+
+
+def norms_words(m, n, a):
+    x = by_place(a, m, n)
+    columns = [summed([x[i, j] for i in range(m)]) for j in range(n)]
+    rows = [summed([x[i, j] for j in range(n)]) for i in range(m)]
+    s = ZERO
+    for i in range(m):
+        for j in range(n):
+            s = made(FUSE, x[i, j], x[i, j], s)
+    return row_told([max(size(y) for y in a), max(columns), max(rows), made(ROOT, s)])
+
+
+def lu_parts(n, a):
+    x = by_place(a, n, n)
+    p = list(range(n))
+    sign = 1
+    for k in range(n):
+        greatest = max(size(x[i, k]) for i in range(k, n))
+        r = [i for i in range(k, n) if size(x[i, k]) == greatest][0]
+        if greatest == 0:
+            raise Refused(-4)
+        if r != k:
+            for j in range(n):
+                x[r, j], x[k, j] = x[k, j], x[r, j]
+            p[r], p[k] = p[k], p[r]
+            sign = -sign
+        for i in range(k + 1, n):
+            x[i, k] = made(DIVIDE, x[i, k], x[k, k])
+            for j in range(k + 1, n):
+                x[i, j] = made(FUSE, minus_sign(x[i, k]), x[k, j], x[i, j])
+    return x, p, sign
+
+
+def lu_words(n, a):
+    x, p, sign = lu_parts(n, a)
+    return row_told(in_order(x, n, n)) + row_told(p) + [sign]
+
+
+def det_words(n, a):
+    try:
+        x, p, sign = lu_parts(n, a)
+    except Refused as refused:
+        if refused.number == -4:
+            return [ZERO]
+        raise
+    s = ONE if sign == 1 else minus_sign(ONE)
+    for k in range(n):
+        s = made(MULTIPLY, s, x[k, k])
+    return [s]
+
+
+def falling(n, m, x, y):
+    for i in reversed(range(n)):
+        for j in range(i + 1, n):
+            for c in range(m):
+                y[i, c] = made(FUSE, minus_sign(x[i, j]), y[j, c], y[i, c])
+        for c in range(m):
+            y[i, c] = made(DIVIDE, y[i, c], x[i, i])
+
+
+def solve_parts(n, m, a, b):
+    x, p, sign = lu_parts(n, a)
+    z = by_place(b, n, m)
+    y = {(i, c): z[p[i], c] for i in range(n) for c in range(m)}
+    for i in range(n):
+        for j in range(i):
+            for c in range(m):
+                y[i, c] = made(FUSE, minus_sign(x[i, j]), y[j, c], y[i, c])
+    falling(n, m, x, y)
+    return in_order(y, n, m)
+
+
+def solve_words(n, m, a, b):
+    return row_told(solve_parts(n, m, a, b))
+
+
+def rest_parts(n, m, a, y, b):
+    left = []
+    for i in range(n):
+        for j in range(m):
+            s = b[i * m + j]
+            for t in range(n):
+                s = made(FUSE, minus_sign(a[i * n + t]), y[t * m + j], s)
+            left.append(s)
+    return left
+
+
+def refined_words(n, m, many, a, b):
+    y = solve_parts(n, m, a, b)
+    for _ in range(many):
+        d = solve_parts(n, m, a, rest_parts(n, m, a, y, b))
+        y = [made(ADD, s, t) for s, t in zip(y, d)]
+    return row_told(y)

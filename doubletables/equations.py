@@ -1,7 +1,9 @@
-"""Equations on tables as lists of rows: lu, and what is solved by it."""
+"""Equations on tables as lists of rows: lu, chol and qr, and what is solved by them."""
 
-from doubletables.doubles import ONE, fused, is_zero, opposite, product, quotient, size_of
-from doubletables.grids import plus_of, rest_of
+from doubletables.doubles import ONE, fused, is_zero, opposite, product, quotient, root, sign_of, size_of
+from doubletables.grids import (
+    columns_of, fused_along, opposites, plus_of, rest_of, times_of, unit_grid, zero_grid
+)
 from doubletables.refusals import NotAsTold
 
 
@@ -96,3 +98,66 @@ def refined_of(a, b, many):
     for turn in range(many):
         y = plus_of(y, solved_by(factors, rest_of(a, y, b)))
     return y
+
+
+def inverse_of(a):
+    return solve_of(a, unit_grid(len(a)))
+
+
+def left_at(a, x, i, j):
+    # What a has there, less what the columns of x ahead of j make up.
+    return fused_along(opposites(x[i][:j]), x[j][:j], a[i][j])
+
+
+def chol_of(a):
+    n = len(a)
+    x = zero_grid(n, n)
+    for j in range(n):
+        s = left_at(a, x, j, j)
+        if is_zero(s) or sign_of(s) == 1:
+            raise NotAsTold()
+        x[j][j] = root(s)
+        for i in range(j + 1, n):
+            x[i][j] = quotient(left_at(a, x, i, j), x[j][j])
+    return x
+
+
+class Split:
+    def __init__(self, a):
+        # All of qr goes along columns, so those of a and of q are kept as lists.
+        self.x_columns = columns_of(a)
+        self.q_columns = []
+        self.r = zero_grid(len(a[0]), len(a[0]))
+
+
+def split_off(split, k):
+    column = split.x_columns[k]
+    s = fused_along(column, column, 0)
+    if is_zero(s):
+        raise NotAsTold()
+    length = root(s)
+    split.r[k][k] = length
+    split.q_columns.append([quotient(x, length) for x in column])
+
+
+def take_from_column(split, k, j):
+    q_column = split.q_columns[k]
+    s = fused_along(q_column, split.x_columns[j], 0)
+    split.r[k][j] = s
+    split.x_columns[j] = less_times(split.x_columns[j], s, q_column)
+
+
+def qr_of(a):
+    split = Split(a)
+    n = len(split.r)
+    for k in range(n):
+        split_off(split, k)
+        for j in range(k + 1, n):
+            take_from_column(split, k, j)
+    return split
+
+
+def least_of(a, b):
+    split = qr_of(a)
+    # The columns of q as rows: their times b is the words' y[j, c], summed over all i.
+    return back_solved(split.r, times_of(split.q_columns, b))

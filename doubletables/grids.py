@@ -1,6 +1,6 @@
 """Tables as lists of rows, so that x[i][j] is the words' [i, j], and what is made of whole ones."""
 
-from doubletables.doubles import fused, opposite, plus, root, size_of
+from doubletables.doubles import ONE, fused, opposite, plus, root, size_of
 
 
 def grid_of(numbers, n):
@@ -24,6 +24,14 @@ def columns_of(grid):
 
 def zero_grid(m, n):
     return [[0] * n for i in range(m)]
+
+
+def unit_row(n, i):
+    return [ONE if j == i else 0 for j in range(n)]
+
+
+def unit_grid(n):
+    return [unit_row(n, i) for i in range(n)]
 
 
 def opposites(numbers):
@@ -80,3 +88,17 @@ def norms_of(a):
     row_sums = [added_up(row) for row in sizes]
     numbers = flat(a)
     return [max(flat(sizes)), max(column_sums), max(row_sums), root(fused_along(numbers, numbers, 0))]
+
+
+def power_of_grid(a, k):
+    s = unit_grid(len(a))
+    t = a
+    left = k
+    while left != 0:
+        if left % 2 == 1:
+            s = times_of(s, t)
+        left = left // 2
+        # A t that is no longer needed isn't made: it may be beyond the greatest.
+        if left != 0:
+            t = times_of(t, t)
+    return s

@@ -46,6 +46,11 @@ def check_times(many):
         raise WrongCount()
 
 
+def check_rows_reach(m, n):
+    if m < n:
+        raise NotAsTold()
+
+
 def check_finite(numbers):
     for x in numbers:
         if not is_finite(x):

@@ -1,9 +1,13 @@
 """The calls: each takes numbers and lists, and answers one list, as the document's interface says."""
 
 from doubletables.doubles import fused, is_equal, minus, plus, product, quotient, root
-from doubletables.equations import det_of, lu_of, refined_of, solve_of
-from doubletables.grids import added_up, columns_of, flat, grid_of, norms_of, rest_of, times_of
-from doubletables.refusals import NotAsTold, WrongCount, answered, check_counts, check_finite, check_times
+from doubletables.equations import chol_of, det_of, inverse_of, least_of, lu_of, qr_of, refined_of, solve_of
+from doubletables.grids import (
+    added_up, columns_of, flat, grid_of, norms_of, power_of_grid, rest_of, times_of
+)
+from doubletables.refusals import (
+    NotAsTold, WrongCount, answered, check_counts, check_finite, check_rows_reach, check_times
+)
 
 
 def with_count(numbers):
@@ -169,3 +173,38 @@ def refined_told(n, m, many, a, b):
 
 def refined(n, m, many, a, b):
     return answered(lambda: refined_told(n, m, many, a, b))
+
+
+def inverse(n, a):
+    return answered(lambda: grid_told(inverse_of(square_of(n, a))))
+
+
+def chol(n, a):
+    return answered(lambda: grid_told(chol_of(square_of(n, a))))
+
+
+def qr_told(m, n, a):
+    check_counts([m, n], [a], [m * n])
+    check_rows_reach(m, n)
+    check_finite(a)
+    split = qr_of(grid_of(a, n))
+    return grid_told(columns_of(split.q_columns)) + grid_told(split.r)
+
+
+def qr(m, n, a):
+    return answered(lambda: qr_told(m, n, a))
+
+
+def least_told(m, n, k, a, b):
+    check_counts([m, n, k], [a, b], [m * n, m * k])
+    check_rows_reach(m, n)
+    check_finite(a + b)
+    return grid_told(least_of(grid_of(a, n), grid_of(b, k)))
+
+
+def least(m, n, k, a, b):
+    return answered(lambda: least_told(m, n, k, a, b))
+
+
+def power(n, k, a):
+    return answered(lambda: grid_told(power_of_grid(square_of(n, a), k)))

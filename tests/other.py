@@ -1,6 +1,6 @@
 """The calls reckoned another way: the words as they stand, on dicts by place, with the steps of tests.given."""
 
-from tests.given import ONE, SIGN, ZERO, minus_sign, other_step
+from tests.given import ONE, SIGN, ZERO, is_minus, minus_sign, other_step
 
 ADD, SUBTRACT, MULTIPLY, DIVIDE, ROOT, FUSE = range(6)
 
@@ -144,3 +144,93 @@ def refined_words(n, m, many, a, b):
         d = solve_parts(n, m, a, rest_parts(n, m, a, y, b))
         y = [made(ADD, s, t) for s, t in zip(y, d)]
     return row_told(y)
+
+
+def unit(n):
+    return [ONE if i == j else ZERO for i in range(n) for j in range(n)]
+
+
+def inverse_words(n, a):
+    return row_told(solve_parts(n, n, a, unit(n)))
+
+
+def chol_words(n, a):
+    a = by_place(a, n, n)
+    x = {(i, j): ZERO for i in range(n) for j in range(n)}
+    for j in range(n):
+        s = a[j, j]
+        for k in range(j):
+            s = made(FUSE, minus_sign(x[j, k]), x[j, k], s)
+        if is_nought(s) or is_minus(s):
+            raise Refused(-4)
+        x[j, j] = made(ROOT, s)
+        for i in range(j + 1, n):
+            s = a[i, j]
+            for k in range(j):
+                s = made(FUSE, minus_sign(x[i, k]), x[j, k], s)
+            x[i, j] = made(DIVIDE, s, x[j, j])
+    return row_told(in_order(x, n, n))
+
+
+def qr_parts(m, n, a):
+    x = by_place(a, m, n)
+    q = {}
+    r = {(i, j): ZERO for i in range(n) for j in range(n)}
+    for k in range(n):
+        s = ZERO
+        for i in range(m):
+            s = made(FUSE, x[i, k], x[i, k], s)
+        if is_nought(s):
+            raise Refused(-4)
+        r[k, k] = made(ROOT, s)
+        for i in range(m):
+            q[i, k] = made(DIVIDE, x[i, k], r[k, k])
+        for j in range(k + 1, n):
+            s = ZERO
+            for i in range(m):
+                s = made(FUSE, q[i, k], x[i, j], s)
+            r[k, j] = s
+            for i in range(m):
+                x[i, j] = made(FUSE, minus_sign(s), q[i, k], x[i, j])
+    return q, r
+
+
+def qr_words(m, n, a):
+    q, r = qr_parts(m, n, a)
+    return row_told(in_order(q, m, n)) + row_told(in_order(r, n, n))
+
+
+def least_words(m, n, k, a, b):
+    q, r = qr_parts(m, n, a)
+    b = by_place(b, m, k)
+    y = {}
+    for j in range(n):
+        for c in range(k):
+            s = ZERO
+            for i in range(m):
+                s = made(FUSE, q[i, j], b[i, c], s)
+            y[j, c] = s
+    falling(n, k, r, y)
+    return row_told(in_order(y, n, k))
+
+
+def times_parts(n, a, b):
+    numbers = []
+    for i in range(n):
+        for j in range(n):
+            s = ZERO
+            for t in range(n):
+                s = made(FUSE, a[i * n + t], b[t * n + j], s)
+            numbers.append(s)
+    return numbers
+
+
+def power_words(n, k, a):
+    s, t = unit(n), a
+    while k != 0:
+        if k % 2 == 1:
+            s = times_parts(n, s, t)
+        k //= 2
+        if k != 0:
+            t = times_parts(n, t, t)
+    return row_told(s)

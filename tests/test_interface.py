@@ -23,6 +23,11 @@ ARGUMENTS = {
     "det": ["n", "a"],
     "solve": ["n", "m", "a", "b"],
     "refined": ["n", "m", "many", "a", "b"],
+    "inverse": ["n", "a"],
+    "chol": ["n", "a"],
+    "qr": ["m", "n", "a"],
+    "least": ["m", "n", "k", "a", "b"],
+    "power": ["n", "k", "a"],
 }
 
 

@@ -37,8 +37,13 @@ def is_zero(x):
     return size_of(x) == 0
 
 
+def rank_of(x):
+    # A whole number that rises as the values do: 0 for -0 too, and below 0 where x is.
+    return -size_of(x) if sign_of(x) == 1 else size_of(x)
+
+
 def is_equal(x, y):
-    return x == y or (is_zero(x) and is_zero(y))
+    return rank_of(x) == rank_of(y)
 
 
 def whole_of(x):

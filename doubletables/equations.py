@@ -1,6 +1,6 @@
 """Equations on tables as lists of rows: lu, chol and qr, and what is solved by them."""
 
-from doubletables.doubles import ONE, fused, is_zero, opposite, product, quotient, root, sign_of, size_of
+from doubletables.doubles import ONE, fused, is_zero, opposite, product, quotient, rank_of, root, size_of
 from doubletables.grids import (
     columns_of, fused_along, opposites, plus_of, rest_of, times_of, unit_grid, zero_grid
 )
@@ -114,7 +114,7 @@ def chol_of(a):
     x = zero_grid(n, n)
     for j in range(n):
         s = left_at(a, x, j, j)
-        if is_zero(s) or sign_of(s) == 1:
+        if rank_of(s) <= 0:
             raise NotAsTold()
         x[j][j] = root(s)
         for i in range(j + 1, n):

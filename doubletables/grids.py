@@ -26,12 +26,20 @@ def zero_grid(m, n):
     return [[0] * n for i in range(m)]
 
 
-def unit_row(n, i):
-    return [ONE if j == i else 0 for j in range(n)]
+def middle_row(x, n, i):
+    return [x if j == i else 0 for j in range(n)]
+
+
+def middle_grid(x, n):
+    return [middle_row(x, n, i) for i in range(n)]
 
 
 def unit_grid(n):
-    return [unit_row(n, i) for i in range(n)]
+    return middle_grid(ONE, n)
+
+
+def middle_of(grid):
+    return [grid[i][i] for i in range(len(grid))]
 
 
 def opposites(numbers):
@@ -43,6 +51,10 @@ def added_up(numbers):
     for x in numbers:
         s = plus(s, x)
     return s
+
+
+def trace_of(grid):
+    return added_up(middle_of(grid))
 
 
 def fused_along(row, column, start):
@@ -77,6 +89,13 @@ def plus_of(a, b):
     return [plus_row(row, other) for row, other in zip(a, b)]
 
 
+def plus_in_middle(grid, x):
+    made = [list(row) for row in grid]
+    for j in range(len(made)):
+        made[j][j] = plus(made[j][j], x)
+    return made
+
+
 def sizes_of(numbers):
     return [size_of(x) for x in numbers]
 
@@ -88,17 +107,3 @@ def norms_of(a):
     row_sums = [added_up(row) for row in sizes]
     numbers = flat(a)
     return [max(flat(sizes)), max(column_sums), max(row_sums), root(fused_along(numbers, numbers, 0))]
-
-
-def power_of_grid(a, k):
-    s = unit_grid(len(a))
-    t = a
-    left = k
-    while left != 0:
-        if left % 2 == 1:
-            s = times_of(s, t)
-        left = left // 2
-        # A t that is no longer needed isn't made: it may be beyond the greatest.
-        if left != 0:
-            t = times_of(t, t)
-    return s

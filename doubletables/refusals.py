@@ -46,6 +46,12 @@ def check_times(many):
         raise WrongCount()
 
 
+def check_some(numbers):
+    check_times(len(numbers))
+    if len(numbers) == 0:
+        raise WrongCount()
+
+
 def check_rows_reach(m, n):
     if m < n:
         raise NotAsTold()

@@ -2,12 +2,12 @@
 
 from doubletables.doubles import fused, is_equal, minus, plus, product, quotient, root
 from doubletables.equations import chol_of, det_of, inverse_of, least_of, lu_of, qr_of, refined_of, solve_of
-from doubletables.grids import (
-    added_up, columns_of, flat, grid_of, norms_of, power_of_grid, rest_of, times_of
-)
+from doubletables.grids import columns_of, flat, grid_of, middle_of, norms_of, rest_of, times_of, trace_of
+from doubletables.powers import exp_of, own_of, poly_of, power_of_grid
 from doubletables.refusals import (
-    NotAsTold, WrongCount, answered, check_counts, check_finite, check_rows_reach, check_times
+    NotAsTold, WrongCount, answered, check_counts, check_finite, check_rows_reach, check_some, check_times
 )
+from doubletables.turns import jacobi_of, rising_places
 
 
 def with_count(numbers):
@@ -122,13 +122,8 @@ def rest(m, k, n, a, x, b):
     return answered(lambda: rest_told(m, k, n, a, x, b))
 
 
-def trace_told(n, a):
-    grid = square_of(n, a)
-    return [added_up([grid[i][i] for i in range(n)])]
-
-
 def trace(n, a):
-    return answered(lambda: trace_told(n, a))
+    return answered(lambda: [trace_of(square_of(n, a))])
 
 
 def norms_told(m, n, a):
@@ -208,3 +203,50 @@ def least(m, n, k, a, b):
 
 def power(n, k, a):
     return answered(lambda: grid_told(power_of_grid(square_of(n, a), k)))
+
+
+def exp_told(n, terms, halvings, a):
+    check_times(terms)
+    check_times(halvings)
+    return grid_told(exp_of(square_of(n, a), terms, halvings))
+
+
+def exp(n, terms, halvings, a):
+    return answered(lambda: exp_told(n, terms, halvings, a))
+
+
+def poly_told(n, a, c):
+    check_counts([n], [a], [n * n])
+    check_some(c)
+    check_finite(a + c)
+    return grid_told(poly_of(grid_of(a, n), c))
+
+
+def poly(n, a, c):
+    return answered(lambda: poly_told(n, a, c))
+
+
+def own(n, a):
+    return answered(lambda: with_count(own_of(square_of(n, a))))
+
+
+def jacobi_told(n, sweeps, a):
+    check_times(sweeps)
+    turned = jacobi_of(square_of(n, a), sweeps)
+    return with_count(middle_of(turned.x)) + grid_told(turned.v)
+
+
+def jacobi(n, sweeps, a):
+    return answered(lambda: jacobi_told(n, sweeps, a))
+
+
+def ordered_told(n, d, v):
+    check_counts([n], [d, v], [n, n * n])
+    check_finite(d + v)
+    places = rising_places(d)
+    columns = columns_of(grid_of(v, n))
+    return with_count([d[i] for i in places]) + grid_told(columns_of([columns[i] for i in places]))
+
+
+def ordered(n, d, v):
+    return answered(lambda: ordered_told(n, d, v))

@@ -1,6 +1,6 @@
 """The calls reckoned another way: the words as they stand, on dicts by place, with the steps of tests.given."""
 
-from tests.given import ONE, SIGN, ZERO, is_minus, minus_sign, other_step
+from tests.given import ONE, SIGN, ZERO, bits, exact, is_minus, minus_sign, other_step
 
 ADD, SUBTRACT, MULTIPLY, DIVIDE, ROOT, FUSE = range(6)
 
@@ -234,3 +234,94 @@ def power_words(n, k, a):
         if k != 0:
             t = times_parts(n, t, t)
     return row_told(s)
+
+
+def exp_words(n, terms, halvings, a):
+    t, s = unit(n), unit(n)
+    b = [made(MULTIPLY, x, bits(0.5**halvings)) for x in a]
+    for i in range(1, terms + 1):
+        t = times_parts(n, t, b)
+        t = [made(DIVIDE, x, bits(float(i))) for x in t]
+        s = [made(ADD, x, y) for x, y in zip(s, t)]
+    for _ in range(halvings):
+        s = times_parts(n, s, s)
+    return row_told(s)
+
+
+def poly_words(n, a, c):
+    k = len(c)
+    s = [c[k - 1] if i == j else ZERO for i in range(n) for j in range(n)]
+    for i in reversed(range(k - 1)):
+        s = times_parts(n, s, a)
+        for j in range(n):
+            s[j * n + j] = made(ADD, s[j * n + j], c[i])
+    return row_told(s)
+
+
+def own_words(n, a):
+    o = {n: ONE}
+    t = unit(n)
+    for k in range(1, n + 1):
+        u = times_parts(n, a, t)
+        s = ZERO
+        for i in range(n):
+            s = made(ADD, s, u[i * n + i])
+        o[n - k] = minus_sign(made(DIVIDE, s, bits(float(k))))
+        t = list(u)
+        for j in range(n):
+            t[j * n + j] = made(ADD, u[j * n + j], o[n - k])
+    return row_told([o[i] for i in range(n + 1)])
+
+
+def turn_words(n, x, v, p, q):
+    """One p, q of a sweep; it answers which way t came by, for the tests that want both."""
+    if is_nought(x[p, q]):
+        return "passed by"
+    e = made(SUBTRACT, x[q, q], x[p, p])
+    if abs(exact(x[p, q])) * 2**500 < abs(exact(e)):
+        way, t = "far", made(DIVIDE, x[p, q], e)
+    else:
+        h = made(DIVIDE, e, made(ADD, x[p, q], x[p, q]))
+        g = made(ADD, size(h), made(ROOT, made(FUSE, h, h, ONE)))
+        way, t = "near", made(DIVIDE, ONE, g)
+        if exact(h) < 0:
+            t = minus_sign(t)
+    c = made(DIVIDE, ONE, made(ROOT, made(FUSE, t, t, ONE)))
+    s = made(MULTIPLY, t, c)
+    z = x[p, q]
+    x[p, p] = made(FUSE, minus_sign(t), z, x[p, p])
+    x[q, q] = made(FUSE, t, z, x[q, q])
+    x[p, q] = x[q, p] = ZERO
+    for i in range(n):
+        if i not in (p, q):
+            u, w = x[i, p], x[i, q]
+            x[i, p] = x[p, i] = made(FUSE, c, u, minus_sign(made(MULTIPLY, s, w)))
+            x[i, q] = x[q, i] = made(FUSE, s, u, made(MULTIPLY, c, w))
+    for i in range(n):
+        u, w = v[i, p], v[i, q]
+        v[i, p] = made(FUSE, c, u, minus_sign(made(MULTIPLY, s, w)))
+        v[i, q] = made(FUSE, s, u, made(MULTIPLY, c, w))
+    return way
+
+
+def jacobi_words(n, sweeps, a):
+    x = by_place(a, n, n)
+    if any(exact(x[i, j]) != exact(x[j, i]) for i in range(n) for j in range(n)):
+        raise Refused(-4)
+    v = by_place(unit(n), n, n)
+    for _ in range(sweeps):
+        for p in range(n - 1):
+            for q in range(p + 1, n):
+                turn_words(n, x, v, p, q)
+    return row_told([x[i, i] for i in range(n)]) + row_told(in_order(v, n, n))
+
+
+def ordered_words(n, d, v):
+    v = by_place(v, n, n)
+    order = []
+    for new in range(n):
+        place = 0
+        while place < len(order) and exact(d[order[place]]) <= exact(d[new]):
+            place += 1
+        order.insert(place, new)
+    return row_told([d[k] for k in order]) + row_told([v[i, k] for i in range(n) for k in order])

@@ -20,6 +20,12 @@ def squares(n, seed):
     ]
 
 
+def both_ways(a):
+    """The table that has a's numbers on and below the middle, and the same above it."""
+    n = side_of(a)
+    return [a[max(i, j) * n + min(i, j)] for i in range(n) for j in range(n)]
+
+
 def by_rows(*rows):
     return all_bits([x for row in rows for x in row])
 

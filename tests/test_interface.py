@@ -28,7 +28,13 @@ ARGUMENTS = {
     "qr": ["m", "n", "a"],
     "least": ["m", "n", "k", "a", "b"],
     "power": ["n", "k", "a"],
+    "exp": ["n", "terms", "halvings", "a"],
+    "poly": ["n", "a", "c"],
+    "own": ["n", "a"],
+    "jacobi": ["n", "sweeps", "a"],
+    "ordered": ["n", "d", "v"],
 }
+LISTS = {"a", "b", "c", "d", "p", "v"}
 
 
 class Interface(unittest.TestCase):
@@ -39,7 +45,7 @@ class Interface(unittest.TestCase):
     def test_answers_are_lists_of_whole_numbers_and_nothing_is_printed(self):
         for given in (0, 1, 2**64 - 1):
             for name, arguments in ARGUMENTS.items():
-                lists = {"a", "b", "p"} | ({"x"} if name == "rest" else set())
+                lists = LISTS | ({"x"} if name == "rest" else set())
                 values = [[given] if argument in lists else given for argument in arguments]
                 printed = io.StringIO()
                 with contextlib.redirect_stdout(printed), contextlib.redirect_stderr(printed):

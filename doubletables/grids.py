@@ -100,10 +100,15 @@ def sizes_of(numbers):
     return [size_of(x) for x in numbers]
 
 
-def norms_of(a):
+def greatest_size(numbers):
     # The bits of doubles that aren't below 0 rise as their values do, so max is the greatest value.
+    return max(sizes_of(numbers))
+
+
+def norms_of(a):
     sizes = [sizes_of(row) for row in a]
     column_sums = [added_up(column) for column in columns_of(sizes)]
     row_sums = [added_up(row) for row in sizes]
     numbers = flat(a)
-    return [max(flat(sizes)), max(column_sums), max(row_sums), root(fused_along(numbers, numbers, 0))]
+    last = root(fused_along(numbers, numbers, 0))
+    return [greatest_size(numbers), greatest_size(column_sums), greatest_size(row_sums), last]

@@ -1,7 +1,15 @@
-"""What is made of a table by times, again and again: power, exp, poly and own."""
+"""What is made of a table by times, again and again: power, exp, poly, own and iterate."""
 
-from doubletables.doubles import ONE, opposite, product, quotient, rounded
-from doubletables.grids import middle_grid, plus_in_middle, plus_of, times_of, trace_of, unit_grid
+from doubletables.doubles import ONE, is_zero, opposite, product, quotient, rounded
+from doubletables.grids import (
+    fused_along, greatest_size, middle_grid, plus_in_middle, plus_of, times_of, trace_of, unit_grid
+)
+
+
+class Iterated:
+    def __init__(self):
+        self.ended = 0
+        self.told = []
 
 
 def power_of_grid(a, k):
@@ -61,3 +69,17 @@ def own_of(a):
         # Made for the last k too, though nothing is made of it then: a sum in it may be beyond the greatest.
         t = plus_in_middle(u, o[n - k])
     return o
+
+
+def iterate_of(a, x, many):
+    iterated = Iterated()
+    y = x
+    for turn in range(many):
+        iterated.told.extend(y)
+        z = [fused_along(row, y, 0) for row in a]
+        g = greatest_size(z)
+        if is_zero(g):
+            iterated.ended = 1
+            break
+        y = quotient_row(z, g)
+    return iterated

@@ -3,7 +3,7 @@
 from doubletables.doubles import fused, is_equal, minus, plus, product, quotient, root
 from doubletables.equations import chol_of, det_of, inverse_of, least_of, lu_of, qr_of, refined_of, solve_of
 from doubletables.grids import columns_of, flat, grid_of, middle_of, norms_of, rest_of, times_of, trace_of
-from doubletables.powers import exp_of, own_of, poly_of, power_of_grid
+from doubletables.powers import exp_of, iterate_of, own_of, poly_of, power_of_grid
 from doubletables.refusals import (
     NotAsTold, WrongCount, answered, check_counts, check_finite, check_rows_reach, check_some, check_times
 )
@@ -250,3 +250,15 @@ def ordered_told(n, d, v):
 
 def ordered(n, d, v):
     return answered(lambda: ordered_told(n, d, v))
+
+
+def iterate_told(n, many, a, x):
+    check_counts([n], [a, x], [n * n, n])
+    check_times(many)
+    check_finite(a + x)
+    iterated = iterate_of(grid_of(a, n), x, many)
+    return [iterated.ended] + with_count(iterated.told)
+
+
+def iterate(n, many, a, x):
+    return answered(lambda: iterate_told(n, many, a, x))

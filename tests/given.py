@@ -3,6 +3,7 @@
 The other way is Python's fractions, turned into the nearest double by Python's own division of whole numbers.
 """
 
+import itertools
 import math
 import struct
 from fractions import Fraction
@@ -48,14 +49,16 @@ def minus_sign(x):
     return x ^ SIGN
 
 
-def stream(seed, count):
+def endless(seed):
     state = seed
-    numbers = []
-    for _ in range(count):
+    while True:
         state = (state * 6364136223846793005 + 1442695040888963407) % 2**64
         mixed = ((state >> 29) ^ state) * 0xBF58476D1CE4E5B9 % 2**64
-        numbers.append(mixed ^ (mixed >> 32))
-    return numbers
+        yield mixed ^ (mixed >> 32)
+
+
+def stream(seed, count):
+    return list(itertools.islice(endless(seed), count))
 
 
 def near_doubles(seed, count, spread):

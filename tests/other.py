@@ -45,6 +45,65 @@ def answer(work, *given):
         return [refused.number]
 
 
+def step_words(which, x, y, z):
+    return [made(which, x, y, z)]
+
+
+def sum_words(m, n, a, b):
+    return row_told([made(ADD, x, y) for x, y in zip(a, b)])
+
+
+def less_words(m, n, a, b):
+    return row_told([made(SUBTRACT, x, y) for x, y in zip(a, b)])
+
+
+def scaled_words(m, n, x, a):
+    return row_told([made(MULTIPLY, y, x) for y in a])
+
+
+def flipped_words(m, n, a):
+    return row_told([a[i * n + j] for j in range(n) for i in range(m)])
+
+
+def rows_words(m, n, a, p):
+    if any(p.count(i) != 1 for i in range(m)):
+        raise Refused(-4)
+    return row_told([a[p[i] * n + j] for i in range(m) for j in range(n)])
+
+
+def same_words(m, n, a, b):
+    return [1 if all(exact(x) == exact(y) for x, y in zip(a, b)) else 0]
+
+
+def times_words(m, k, n, a, b):
+    numbers = []
+    for i in range(m):
+        for j in range(n):
+            s = ZERO
+            for t in range(k):
+                s = made(FUSE, a[i * k + t], b[t * n + j], s)
+            numbers.append(s)
+    return row_told(numbers)
+
+
+def rest_words(m, k, n, a, x, b):
+    left = []
+    for i in range(m):
+        for j in range(n):
+            s = b[i * n + j]
+            for t in range(k):
+                s = made(FUSE, minus_sign(a[i * k + t]), x[t * n + j], s)
+            left.append(s)
+    return row_told(left)
+
+
+def trace_words(n, a):
+    s = ZERO
+    for i in range(n):
+        s = made(ADD, s, a[i * n + i])
+    return [s]
+
+
 def summed(numbers):
     s = ZERO
     for x in numbers:
@@ -128,14 +187,7 @@ def solve_words(n, m, a, b):
 
 
 def rest_parts(n, m, a, y, b):
-    left = []
-    for i in range(n):
-        for j in range(m):
-            s = b[i * m + j]
-            for t in range(n):
-                s = made(FUSE, minus_sign(a[i * n + t]), y[t * m + j], s)
-            left.append(s)
-    return left
+    return rest_words(n, n, m, a, y, b)[1:]
 
 
 def refined_words(n, m, many, a, b):
@@ -215,14 +267,7 @@ def least_words(m, n, k, a, b):
 
 
 def times_parts(n, a, b):
-    numbers = []
-    for i in range(n):
-        for j in range(n):
-            s = ZERO
-            for t in range(n):
-                s = made(FUSE, a[i * n + t], b[t * n + j], s)
-            numbers.append(s)
-    return numbers
+    return times_words(n, n, n, a, b)[1:]
 
 
 def power_words(n, k, a):
@@ -263,9 +308,7 @@ def own_words(n, a):
     t = unit(n)
     for k in range(1, n + 1):
         u = times_parts(n, a, t)
-        s = ZERO
-        for i in range(n):
-            s = made(ADD, s, u[i * n + i])
+        s = trace_words(n, u)[0]
         o[n - k] = minus_sign(made(DIVIDE, s, bits(float(k))))
         t = list(u)
         for j in range(n):
@@ -325,3 +368,21 @@ def ordered_words(n, d, v):
             place += 1
         order.insert(place, new)
     return row_told([d[k] for k in order]) + row_told([v[i, k] for i in range(n) for k in order])
+
+
+def iterate_words(n, many, a, x):
+    y = list(x)
+    told = []
+    for _ in range(many):
+        told += y
+        z = []
+        for i in range(n):
+            s = ZERO
+            for j in range(n):
+                s = made(FUSE, a[i * n + j], y[j], s)
+            z.append(s)
+        g = max(z, key=lambda s: abs(exact(s)))
+        if is_nought(g):
+            return [1] + row_told(told)
+        y = [made(DIVIDE, s, size(g)) for s in z]
+    return [0] + row_told(told)

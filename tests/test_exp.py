@@ -1,6 +1,7 @@
 """exp: what is halved, multiplied, divided and added, in this order, and then squared."""
 
 import itertools
+import math
 
 from doubletables.tables import exp, sum_of, times
 from tests.given import (
@@ -38,6 +39,13 @@ class Exp(CallCase):
         self.gives(2, 2, 0, by_rows([0.0, 2.0], [2.0, 0.0]), by_rows([3.0, 2.0], [2.0, 3.0]))
         self.gives(2, 2, 1, by_rows([0.0, 4.0], [4.0, 0.0]), by_rows([13.0, 12.0], [12.0, 13.0]))
         self.gives(2, 5, 3, by_rows([0.0, 8.0], [0.0, 0.0]), by_rows([1.0, 8.0], [0.0, 1.0]))
+
+    def test_near_e(self):
+        for x in (1.0, -2.5, 3.0):
+            self.assertAlmostEqual(value_of(exp(1, 12, 6, [bits(x)])[2]), math.exp(x), 12)
+        quarter = exp(2, 12, 6, by_rows([0.0, -math.pi / 2.0], [math.pi / 2.0, 0.0]))[2:]
+        for x, y in zip(quarter, (0.0, -1.0, 1.0, 0.0)):
+            self.assertAlmostEqual(value_of(x), y, 12)
 
     def test_no_terms(self):
         for n in (1, 2, 3, 5):

@@ -79,6 +79,17 @@ class Jacobi(CallCase):
         for n, sweeps in ((2, 12), (3, 12), (5, 8), (3, 64), (8, 1), (16, 1)):
             self.as_words(n, sweeps, both_ways(near_doubles(n + sweeps, n * n, 2)))
 
+    def test_own_values(self):
+        # a is v times d in the middle times v flipped, and v's columns are 1 long and upright on one another.
+        for n in (2, 3, 5):
+            a = [value_of(x) for x in both_ways(near_doubles(n, n * n, 1))]
+            told = [value_of(x) for x in jacobi(n, 8, all_bits(a))]
+            d, v = told[2:2 + n], told[3 + n:]
+            for i, j in itertools.product(range(n), repeat=2):
+                row, other = v[i * n:i * n + n], v[j * n:j * n + n]
+                self.assertAlmostEqual(sum(x * y * z for x, y, z in zip(d, row, other)), a[i * n + j], 12)
+                self.assertAlmostEqual(sum(x * y for x, y in zip(row, other)), float(i == j), 12)
+
     def test_no_sweep(self):
         for n in range(1, 6):
             for a in tables_both_ways(n, n) + [[GREATEST] * (n * n), [MINUS_ZERO] * (n * n)]:

@@ -1,6 +1,6 @@
 """own: o from its end down, a times t on this side, the trace from +0 on, and the sign behind the division."""
 
-from doubletables.tables import own, times, trace
+from doubletables.tables import own, poly, times, trace
 from tests.given import (
     GREATEST, INFINITE, LEAST, MINUS_ZERO, ONE, SIGN, ZERO, all_bits, bits, minus_sign, near_doubles, small_doubles,
     value_of,
@@ -64,9 +64,17 @@ class Own(CallCase):
         self.assertEqual(outcomes, {0, -3})
 
     def test_greater_sizes(self):
-        for n in (6, 9, 16):
+        for n in (6, 9):
             self.as_words(n, near_doubles(n, n * n, 2))
             self.as_words(n, small_doubles(n, n * n))
+        self.as_words(16, near_doubles(16, 256, 2))
+
+    def test_a_table_in_its_own_row(self):
+        # o[0] + o[1] a + o[2] a a + ... comes to a table of 0, but for what is rounded.
+        for n in range(1, 6):
+            a = near_doubles(n, n * n, 1)
+            left = poly(n, a, own(n, a)[2:])[2:]
+            self.assertLess(max(abs(value_of(x)) for x in left), 1e-8)
 
     def test_every_step(self):
         def by_other_calls(a, is_turned):
